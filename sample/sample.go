@@ -1,0 +1,74 @@
+// Package sample makes things of all kinds for the tests: the same ones from the same number on.
+package sample
+
+import (
+	"gleaning/api"
+)
+
+// Chance deals out numbers that look like chance.
+type Chance uint64
+
+// Next is a number from 0 to below n (n below 1: 0).
+func (c *Chance) Next(n int) int {
+	if n < 1 {
+		return 0
+	}
+	return int(c.Wide()>>1) % n
+}
+
+// Wide is any number of 64 bits.
+func (c *Chance) Wide() uint64 {
+	*c += 0x9e3779b97f4a7c15
+	n := uint64(*c)
+	n = (n ^ n>>30) * 0xbf58476d1ce4e5b9
+	n = (n ^ n>>27) * 0x94d049bb133111eb
+	return n ^ n>>31
+}
+
+// Yes is true once in n.
+func (c *Chance) Yes(n int) bool {
+	return c.Next(n) == 0
+}
+
+// Name is one of a few names.
+func (c *Chance) Name(first byte) string {
+	return string([]byte{first, byte('0' + c.Next(3))})
+}
+
+// Bytes are any bytes.
+func (c *Chance) Bytes(n int) []byte {
+	out := make([]byte, 0, n)
+	for range n {
+		out = append(out, byte(c.Next(256)))
+	}
+	return out
+}
+
+// Trace is one of so many traces.
+func (c *Chance) Trace(most int) api.Trace {
+	n := uint64(c.Next(most))
+	return api.Trace{Hi: n % 3, Lo: n}
+}
+
+// Span is a right span of one of so many traces.
+func (c *Chance) Span(traces int) api.Span {
+	s := api.Span{Trace: c.Trace(traces), Id: uint64(c.Next(12)), Parent: uint64(c.Next(12))}
+	s.Service = c.Name('s')
+	s.Op = c.Name('o')
+	s.Start = c.Next(5000)
+	s.Dur = c.Next(1200)
+	s.Err = c.Yes(4)
+	for i := range c.Next(3) {
+		s.Attrs = append(s.Attrs, api.Attr{Key: string([]byte{'k', byte('0' + i)}), Value: c.Name('v')})
+	}
+	return s
+}
+
+// Spans are right spans of some traces.
+func (c *Chance) Spans(n, traces int) []api.Span {
+	out := make([]api.Span, 0, n)
+	for range n {
+		out = append(out, c.Span(traces))
+	}
+	return out
+}

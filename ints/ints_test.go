@@ -137,9 +137,9 @@ func TestReader(t *testing.T) {
 	b = ints.Append(b, 300)
 	b = ints.AppendText(b, "ab")
 	b = ints.AppendFlag(ints.AppendFlag(b, true), false)
-	b = append(b, 4, 5)
+	b = append(b, 255, 4, 5)
 	r := ints.Reader{Rest: b}
-	if r.Wide() != math.MaxUint64 || r.Number() != 300 || r.Text() != "ab" || !r.Flag() || r.Flag() {
+	if r.Wide() != math.MaxUint64 || r.Number() != 300 || r.Text() != "ab" || !r.Flag() || r.Flag() || r.Byte() != 255 {
 		t.Error("not read back")
 	}
 	if r.Done() || !bytes.Equal(r.Take(2), []byte{4, 5}) || !r.Done() {
@@ -148,6 +148,7 @@ func TestReader(t *testing.T) {
 	for i, read := range []func(r *ints.Reader){
 		func(r *ints.Reader) { r.Wide() },
 		func(r *ints.Reader) { r.Text() },
+		func(r *ints.Reader) { r.Byte() },
 		func(r *ints.Reader) { r.Take(1) },
 		func(r *ints.Reader) { r.Take(-1) },
 		func(r *ints.Reader) { r.Rest = []byte{2}; r.Flag() },
@@ -155,7 +156,7 @@ func TestReader(t *testing.T) {
 	} {
 		r := ints.Reader{}
 		read(&r)
-		if !r.Bad || r.Done() || r.Number() != 0 || r.Text() != "" || r.Take(1) != nil {
+		if !r.Bad || r.Done() || r.Number() != 0 || r.Text() != "" || r.Byte() != 0 || r.Take(1) != nil {
 			t.Errorf("%d: not bad", i)
 		}
 	}

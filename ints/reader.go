@@ -57,6 +57,15 @@ func (r *Reader) Flag() bool {
 	return n == 1
 }
 
+// Byte reads a byte as it is.
+func (r *Reader) Byte() byte {
+	b := r.Take(1)
+	if len(b) == 0 {
+		return 0
+	}
+	return b[0]
+}
+
 // Take reads so many bytes as they are; they are those of Rest, no others.
 func (r *Reader) Take(n int) []byte {
 	if n < 0 || n > len(r.Rest) {

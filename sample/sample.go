@@ -72,3 +72,27 @@ func (c *Chance) Spans(n, traces int) []api.Span {
 	}
 	return out
 }
+
+// Rule is a right policy, so many levels deep at most.
+func (c *Chance) Rule(depth int) api.Rule {
+	kinds := 9
+	if depth < 2 {
+		kinds = 6
+	}
+	switch kind := 9 - c.Next(kinds); kind {
+	case api.RErr:
+		return api.Rule{Kind: kind}
+	case api.RAttr:
+		return api.Rule{Kind: kind, Key: c.Name('k'), Value: c.Name('v')}
+	case api.RNot:
+		return api.Rule{Kind: kind, Kids: []api.Rule{c.Rule(depth - 1)}}
+	case api.RAll, api.RAny:
+		r := api.Rule{Kind: kind}
+		for range c.Next(3) {
+			r.Kids = append(r.Kids, c.Rule(depth-1))
+		}
+		return r
+	default:
+		return api.Rule{Kind: kind, N: c.Next(1001)}
+	}
+}

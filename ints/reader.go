@@ -10,8 +10,8 @@ type Reader struct {
 	Bad  bool
 }
 
-// fail makes r bad.
-func (r *Reader) fail() {
+// Fail makes r bad.
+func (r *Reader) Fail() {
 	r.Rest = nil
 	r.Bad = true
 }
@@ -20,7 +20,7 @@ func (r *Reader) fail() {
 func (r *Reader) Wide() uint64 {
 	n, k, ok := Get(r.Rest)
 	if !ok {
-		r.fail()
+		r.Fail()
 		return 0
 	}
 	r.Rest = r.Rest[k:]
@@ -31,7 +31,7 @@ func (r *Reader) Wide() uint64 {
 func (r *Reader) Number() int {
 	n := r.Wide()
 	if n > math.MaxInt {
-		r.fail()
+		r.Fail()
 		return 0
 	}
 	return int(n)
@@ -41,7 +41,7 @@ func (r *Reader) Number() int {
 func (r *Reader) Text() string {
 	s, k, ok := GetText(r.Rest)
 	if !ok {
-		r.fail()
+		r.Fail()
 		return ""
 	}
 	r.Rest = r.Rest[k:]
@@ -52,7 +52,7 @@ func (r *Reader) Text() string {
 func (r *Reader) Flag() bool {
 	n := r.Number()
 	if n > 1 {
-		r.fail()
+		r.Fail()
 	}
 	return n == 1
 }
@@ -69,7 +69,7 @@ func (r *Reader) Byte() byte {
 // Take reads so many bytes as they are; they are those of Rest, no others.
 func (r *Reader) Take(n int) []byte {
 	if n < 0 || n > len(r.Rest) {
-		r.fail()
+		r.Fail()
 		return nil
 	}
 	out := r.Rest[:n]

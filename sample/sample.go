@@ -96,3 +96,25 @@ func (c *Chance) Rule(depth int) api.Rule {
 		return api.Rule{Kind: kind, N: c.Next(1001)}
 	}
 }
+
+// Episode is a right episode of a trace.
+func (c *Chance) Episode(t api.Trace) api.Episode {
+	e := api.Episode{Trace: t, First: c.Next(50), Sure: c.Yes(3)}
+	e.Last = e.First + c.Next(9)
+	for i := range 1 + c.Next(3) {
+		s := c.Span(1)
+		s.Trace = t
+		s.Id = uint64(i*100 + c.Next(100))
+		e.Spans = append(e.Spans, s)
+	}
+	return e
+}
+
+// Episodes are right episodes of some traces, in any order.
+func (c *Chance) Episodes(n, traces int) []api.Episode {
+	out := make([]api.Episode, 0, n)
+	for range n {
+		out = append(out, c.Episode(c.Trace(traces)))
+	}
+	return out
+}

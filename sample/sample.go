@@ -118,3 +118,36 @@ func (c *Chance) Episodes(n, traces int) []api.Episode {
 	}
 	return out
 }
+
+// counter has any small counts.
+func (c *Chance) counter() api.Counter {
+	n := api.Counter{Count: c.Next(300), Errs: c.Next(9)}
+	for i := range n.By {
+		n.By[i] = c.Next(200)
+	}
+	return n
+}
+
+// Blocks are blocks without episodes.
+func (c *Chance) Blocks(n int) []api.Block {
+	out := make([]api.Block, 0, n)
+	for i := range n {
+		out = append(out, api.Block{Number: i, Born: c.Next(300), Tier: c.Next(3)})
+	}
+	return out
+}
+
+// State is a right state, in no order; its policy is at most two levels deep, its blocks have no episodes.
+func (c *Chance) State() api.State {
+	s := api.State{Now: c.Next(300), Sec: c.Next(9999), Kept: c.Next(9), Next: c.Next(300), Policy: c.Rule(2)}
+	s.Open = c.Episodes(c.Next(4), 9)
+	s.Pending = c.Episodes(c.Next(4), 9)
+	for range c.Next(4) {
+		s.Memo = append(s.Memo, api.Verdict{Trace: c.Trace(9), Kept: c.Yes(2)})
+		s.Rows = append(s.Rows, api.Row{Level: c.Next(3), Window: c.Next(99), Service: c.Name('s'), Op: c.Name('o'), Counter: c.counter()})
+		s.Edges = append(s.Edges, api.Edge{From: c.Name('s'), To: c.Name('s'), Count: c.Next(300), Errs: c.Next(9)})
+		s.Slots = append(s.Slots, api.Exemplar{Service: c.Name('s'), Op: c.Name('o'), Trace: c.Trace(9), Id: c.Wide(), Block: c.Next(9)})
+	}
+	s.Blocks = c.Blocks(c.Next(4))
+	return s
+}

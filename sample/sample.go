@@ -151,3 +151,26 @@ func (c *Chance) State() api.State {
 	s.Blocks = c.Blocks(c.Next(4))
 	return s
 }
+
+// Config is a small right config, so that all limits are met soon.
+func (c *Chance) Config() api.Config {
+	return api.Config{
+		Idle: 1 + c.Next(3), Age: 1 + c.Next(5), Most: 1 + c.Next(20), Memo: c.Next(8), Cap: 3 + c.Next(40),
+		Keep: c.Next(20), Budget: c.Next(3000),
+		Horizon: [3]int{c.Next(3000), c.Next(9000), c.Next(99999)},
+	}
+}
+
+// Op is a right operation; now and then there is nothing for it to do.
+func (c *Chance) Op() api.Op {
+	switch c.Next(8) {
+	case 0, 1, 2, 3:
+		return api.Op{Kind: api.OIngest, Spans: c.Spans(1+c.Next(6), 9)}
+	case 4, 5:
+		return api.Op{Kind: api.OTick, N: c.Next(9000)}
+	case 6:
+		return api.Op{Kind: api.OPolicy, Policy: c.Rule(2)}
+	default:
+		return api.Op{Kind: api.OCompact}
+	}
+}

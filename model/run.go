@@ -15,21 +15,28 @@ import (
 	"gleaning/slots"
 )
 
-// run is an operation under way: its state is its own.
+// run is an operation under way. What it puts into lists, or takes out, are its own lists; the lists within those are never turned.
 type run struct {
 	c    api.Config
 	s    api.State
 	made []api.Block
 }
 
+// own makes the lists its own that are not made anew.
+func (r *run) own() {
+	r.s.Open = slices.Clone(r.s.Open)
+	r.s.Pending = slices.Clone(r.s.Pending)
+	r.s.Blocks = slices.Clone(r.s.Blocks)
+}
+
 // ingest counts spans ahead of all choosing, and puts them to their traces.
 func (r *run) ingest(l []api.Span) {
+	r.s.Rows = rollup.AddAll(r.s.Rows, l, r.c.Cap)
 	for _, s := range l {
-		r.s.Rows = rollup.Add(r.s.Rows, s, r.c.Cap)
 		r.makeRoom()
 		kept, there := memo.Find(r.s.Memo, s.Trace)
 		if kept || !there {
-			r.s.Open = buffer.Put(r.s.Open, s, r.s.Now, kept)
+			r.s.Open = buffer.PutOwn(r.s.Open, s, r.s.Now, kept)
 		}
 	}
 	r.s.Edges = edges.Add(r.s.Edges, l, r.c.Cap)
@@ -40,7 +47,7 @@ func (r *run) makeRoom() {
 	if buffer.Count(r.s.Open) < r.c.Most {
 		return
 	}
-	rest, oldest, ok := buffer.Oldest(r.s.Open)
+	rest, oldest, ok := buffer.OldestOwn(r.s.Open)
 	if ok {
 		r.s.Open = rest
 		r.decide(oldest)
@@ -89,12 +96,13 @@ func (r *run) flush() {
 	r.s.Pending = nil
 	r.s.Blocks = append(r.s.Blocks, b)
 	r.made = append(r.made, b)
+	all := []api.Exemplar(nil)
 	for _, e := range b.Episodes {
 		for _, s := range e.Spans {
-			one := api.Exemplar{Service: s.Service, Op: s.Op, Trace: s.Trace, Id: s.Id, Block: b.Number}
-			r.s.Slots = slots.Put(r.s.Slots, one)
+			all = append(all, api.Exemplar{Service: s.Service, Op: s.Op, Trace: s.Trace, Id: s.Id, Block: b.Number})
 		}
 	}
+	r.s.Slots = slots.Put(r.s.Slots, all...)
 }
 
 // drop lets all blocks of a number go, and what points to them.

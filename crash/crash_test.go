@@ -209,6 +209,21 @@ func TestRecoverWritesBlocksThatAreNoFilesP2601(t *testing.T) {
 	recovered(t, d)
 }
 
+func TestRecoverLeavesBlocksThatAreFilesP2601(t *testing.T) {
+	d := device.New(1 << 20)
+	k := recovered(t, d)
+	done(t, k, ingest(1), tick)
+	d.Fuse(0)
+	recovered(t, d)
+	d.Fuse(-1)
+	d.Delete("b0")
+	d.Append("b0", []byte("other"))
+	recovered(t, d)
+	if b, _ := d.Read("b0"); string(b) != "other" {
+		t.Errorf("%q", b)
+	}
+}
+
 func TestRecoverNeedsRoomP2601(t *testing.T) {
 	d := device.New(1 << 20)
 	k := recovered(t, d)

@@ -237,6 +237,15 @@ func TestRecoverErrsP2701(t *testing.T) {
 	refused(t, s, get, api.ErrDown)
 	do(t, s, fall, rise, get)
 	s = store(t)
+	do(t, s, ingest(call(1)), tick, ingest(call(2)), tick, compact, api.Event{Kind: api.EFuse})
+	refused(t, s, rise, api.ErrDown)
+	refused(t, s, get, api.ErrDown)
+	do(t, s, api.Event{Kind: api.EFuse, N: -1})
+	if _, ok := s.State(); ok {
+		t.Error("it was not down, and is not down")
+	}
+	do(t, s, rise, get)
+	s = store(t)
 	do(t, s, ingest(call(1)), api.Event{Kind: api.EFuse, N: 3})
 	refused(t, s, tick, api.ErrDown)
 	do(t, s, api.Event{Kind: api.EFuse, N: -1}, rise, get, api.Event{Kind: api.EFuse, N: 0}, rise, get)

@@ -133,6 +133,10 @@ func TestNewMemoryP102(t *testing.T) {
 }
 
 func TestReader(t *testing.T) {
+	most := ints.Reader{Rest: ints.Put(nil, math.MaxInt)}
+	if most.Number() != math.MaxInt || !most.Done() {
+		t.Error("the greatest int")
+	}
 	b := ints.Append(nil, math.MaxUint64)
 	b = ints.Append(b, 300)
 	b = ints.AppendText(b, "ab")
@@ -151,7 +155,10 @@ func TestReader(t *testing.T) {
 		func(r *ints.Reader) { r.Byte() },
 		func(r *ints.Reader) { r.Take(1) },
 		func(r *ints.Reader) { r.Take(-1) },
-		func(r *ints.Reader) { r.Rest = []byte{2}; r.Flag() },
+		func(r *ints.Reader) { r.Rest = []byte{2, 7}; r.Flag() },
+		func(r *ints.Reader) { r.Rest = []byte{1, 7}; r.Text(); r.Rest = []byte{9, 9}; r.Text() },
+		func(r *ints.Reader) { r.Rest = []byte{1, 7}; r.Take(3) },
+		func(r *ints.Reader) { r.Rest = []byte{1, 7}; r.Fail() },
 		func(r *ints.Reader) { r.Rest = ints.Put(nil, 1<<63); r.Number() },
 	} {
 		r := ints.Reader{}

@@ -9,7 +9,7 @@ import (
 
 func TestLess(t *testing.T) {
 	cases := []struct{ a, b, want int }{
-		{5, 3, 2}, {3, 5, -2}, {0, 0, 0},
+		{5, 3, 2}, {5, -3, 8}, {-5, -3, -2}, {-5, 3, -8}, {math.MaxInt - 3, -3, math.MaxInt}, {math.MaxInt - 4, -3, math.MaxInt - 1}, {3, 5, -2}, {0, 0, 0},
 		{math.MaxInt, math.MaxInt, 0}, {math.MinInt, math.MinInt, 0},
 		{math.MinInt, 1, math.MinInt}, {math.MinInt + 1, 1, math.MinInt}, {-2, math.MaxInt, math.MinInt}, {-1, math.MaxInt, math.MinInt},
 		{math.MaxInt, -1, math.MaxInt}, {0, math.MinInt, math.MaxInt}, {-1, math.MinInt, math.MaxInt}, {-2, math.MinInt, math.MaxInt - 1},

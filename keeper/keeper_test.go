@@ -352,6 +352,12 @@ func TestSaveNeedsRoomForTheNextSegmentsNumberP2502(t *testing.T) {
 	if err := k.Save(); err != api.ErrFull || names(d) != "j127" || j.At() != 127 {
 		t.Errorf("%d %s", err, names(d))
 	}
+	d = device.New(len(state.Bytes(model.First(config()))) + len(keeper.Mark(127, 0)))
+	j, _ = journal.Open(d, 0)
+	k = keeper.New(config(), d, j, model.First(config()), 126)
+	if err := k.Save(); err != api.OK || names(d) != "m s127" {
+		t.Errorf("the last number of one byte: %d %s", err, names(d))
+	}
 }
 
 func TestSaveOnADeadDeviceP2502(t *testing.T) {

@@ -113,6 +113,40 @@ func TestNewMemoryP2203(t *testing.T) {
 	}
 }
 
+// spare gives a list spare room, which is nowhere zero.
+func spare[T any](l []T, one T) []T {
+	out := append([]T(nil), l...)
+	for range 5 {
+		out = append(out, one)
+	}
+	return out[:len(l)]
+}
+
+func TestSpareRoomP2203(t *testing.T) {
+	c := sample.Chance(400)
+	for range 500 {
+		cfg, s, o := c.Config(), c.State(), c.Op()
+		cfg.Most = 1
+		s.Open = spare(s.Open, api.Episode{Last: 77})
+		s.Pending = spare(s.Pending, api.Episode{Last: 77})
+		s.Memo = spare(s.Memo, api.Verdict{Kept: true})
+		s.Rows = spare(s.Rows, api.Row{Level: 77})
+		s.Edges = spare(s.Edges, api.Edge{Count: 77})
+		s.Slots = spare(s.Slots, api.Exemplar{Block: 77})
+		s.Blocks = spare(s.Blocks, api.Block{Born: 77})
+		o.Spans = spare(o.Spans, api.Span{Dur: 77})
+		told := func() string {
+			return fmt.Sprint(s.Open[:cap(s.Open)], s.Pending[:cap(s.Pending)], s.Memo[:cap(s.Memo)], s.Rows[:cap(s.Rows)],
+				s.Edges[:cap(s.Edges)], s.Slots[:cap(s.Slots)], s.Blocks[:cap(s.Blocks)], o.Spans[:cap(o.Spans)])
+		}
+		before := told()
+		model.Step(cfg, s, o)
+		if told() != before {
+			t.Fatalf("kind %d: the spare room was written into", o.Kind)
+		}
+	}
+}
+
 // spoil turns all that a state has.
 func spoil(s *api.State) {
 	all := append(append([]api.Episode(nil), s.Open...), s.Pending...)

@@ -81,6 +81,14 @@ func TestAddCountsAsBucketP1001(t *testing.T) {
 	}
 }
 
+func TestAddToWhatDoesNotStandSoP1001(t *testing.T) {
+	l := []api.Row{row(2, 0, "s", "o", 5), row(0, 0, "s", "b", 1), row(0, 0, "s", "a", 1), row(1, 0, "s", "z", 1)}
+	same(t, "each row once", rollup.Add(l, work("s", "a", 0, 0), 9),
+		row(1, 0, "s", "a", 1), row(2, 0, "s", "a", 1), l[0], l[1], row(0, 0, "s", "a", 2), l[3])
+	same(t, "ahead of the first that is behind", rollup.Add(l[1:], work("s", "aa", 0, 0), 9),
+		row(0, 0, "s", "aa", 1), l[1], l[2], row(1, 0, "s", "aa", 1), l[3], row(2, 0, "s", "aa", 1))
+}
+
 func TestAddOfNoneP1001(t *testing.T) {
 	l := []api.Row{row(0, 0, "s", "o", 99)}
 	for i, s := range []api.Span{

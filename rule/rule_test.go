@@ -61,6 +61,7 @@ func ring(kind int) api.Rule {
 // right are policies that are right, with their bytes.
 func right() map[string]api.Rule {
 	return map[string]api.Rule{
+		"\x06\x01k\x10" + long:                  {Kind: api.RAttr, Key: "k", Value: long},
 		"\x01\x00":                              of(api.RAll),
 		"\x02\x00":                              of(api.RAny),
 		"\x02\x02\x05\x01\x01\x05":              of(api.RAny, err1, of(api.RAll, err1)),

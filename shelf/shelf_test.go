@@ -70,6 +70,17 @@ func TestNamesP2401(t *testing.T) {
 	}
 }
 
+func TestIsBlock(t *testing.T) {
+	for name, want := range map[string]bool{
+		"b0": true, "b7": true, "b9223372036854775807": true,
+		"": false, "b": false, "7": false, "bb7": false, "b07": false, "b+7": false, "b-7": false, "b7.tmp": false, "s7": false, "b9223372036854775808": false,
+	} {
+		if shelf.IsBlock(name) != want {
+			t.Errorf("%q: %v", name, !want)
+		}
+	}
+}
+
 func TestLoadP2401(t *testing.T) {
 	c := sample.Chance(24)
 	d := device.New(1 << 20)

@@ -275,7 +275,12 @@ func TestNewMemoryP2102(t *testing.T) {
 	if !state.Same(read, bare(s)) {
 		t.Error("what was read hangs on the bytes")
 	}
-	for _, turn := range wrongTurns() {
+	for _, turn := range append(wrongTurns(),
+		func(s *api.State) { s.Memo[0].Kept = false },
+		func(s *api.State) { s.Pending[0].Spans[0].Attrs[0].Key = "x" },
+		func(s *api.State) { s.Blocks[0].Episodes[0].Spans[0].Attrs[0].Key = "x" },
+		func(s *api.State) { s.Policy.Kids[0].Kind = 7 },
+	) {
 		copied := state.Copy(s)
 		turn(&copied)
 		if fmt.Sprint(s) != before {

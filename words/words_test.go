@@ -93,7 +93,7 @@ func TestParseWithBlanksOrNotP2801(t *testing.T) {
 func TestParseOfNoneP2801(t *testing.T) {
 	for s, want := range map[string]int{
 		"": 0, " ": 1, "\n \n": 3,
-		"x": 0, "  x": 2, "allx()": 0, "errs": 0, "erra": 0, "Err": 0, "eRR": 0, "5": 0, `"err"`: 0, "(": 0, ")": 0, ",": 0, "(err)": 0,
+		"x": 0, "  x": 2, "allx()": 0, "errs": 0, "errz": 0, "zerr": 0, "a": 0, "erra": 0, "Err": 0, "eRR": 0, "5": 0, `"err"`: 0, "(": 0, ")": 0, ",": 0, "(err)": 0,
 		"\terr": 0, "err\t": 3, "err\r\n": 3, "err\x00": 3, "err é": 4, "-5": 0,
 		"err err": 4, "err,": 3, "err)": 3, "err()": 3, "err 5": 4, "err #": 4, `err "`: 4,
 		"all": 3, "all ": 4, "all err": 4, "all(": 4, "all(,": 4, "all(,)": 4, "all(err": 7, "all(err,": 8, "all(err,)": 8, "all(err err)": 8, "all(err,,err)": 8, "all(err))": 8, "all() ()": 6,

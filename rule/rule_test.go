@@ -144,7 +144,7 @@ func TestReadOfNoneP1301(t *testing.T) {
 		"\x02\x14" + strings.Repeat("\x05", 20),
 		"\x04" + string(ints.Put(nil, math.MaxUint64)),
 		"\x01" + string(ints.Put(nil, math.MaxUint64)), "\x01" + string(ints.Put(nil, math.MaxInt64)),
-		strings.Repeat("\x03\x01", 100000),
+		strings.Repeat("\x03\x01", 1<<24),
 		strings.Repeat("\x01\x64", 100000),
 	}
 	for b := range right() {

@@ -16,7 +16,10 @@ func Read(b []byte) (api.State, api.Errno) {
 	}
 	r := &ints.Reader{Rest: body}
 	s := api.State{}
-	getInts(r, &s.Now, &s.Sec, &s.Kept, &s.Next)
+	s.Now = r.Number()
+	s.Sec = r.Number()
+	s.Kept = r.Number()
+	s.Next = r.Number()
 	s.Policy = getPolicy(r)
 	s.Open = getList(r, getEpisode)
 	s.Pending = getList(r, getEpisode)
@@ -29,13 +32,6 @@ func Read(b []byte) (api.State, api.Errno) {
 		return api.State{}, api.ErrBytes
 	}
 	return s, api.OK
-}
-
-// getInts reads numbers to where they belong.
-func getInts(r *ints.Reader, to ...*int) {
-	for _, n := range to {
-		*n = r.Number()
-	}
 }
 
 // getList reads how many there are, and each.
@@ -74,10 +70,12 @@ func getVerdict(r *ints.Reader) api.Verdict {
 
 func getRow(r *ints.Reader) api.Row {
 	row := api.Row{}
-	getInts(r, &row.Level, &row.Window)
+	row.Level = r.Number()
+	row.Window = r.Number()
 	row.Service = r.Text()
 	row.Op = r.Text()
-	getInts(r, &row.Counter.Count, &row.Counter.Errs)
+	row.Counter.Count = r.Number()
+	row.Counter.Errs = r.Number()
 	for i := range row.Counter.By {
 		row.Counter.By[i] = r.Number()
 	}
@@ -88,7 +86,8 @@ func getEdge(r *ints.Reader) api.Edge {
 	e := api.Edge{}
 	e.From = r.Text()
 	e.To = r.Text()
-	getInts(r, &e.Count, &e.Errs)
+	e.Count = r.Number()
+	e.Errs = r.Number()
 	return e
 }
 
@@ -104,6 +103,8 @@ func getSlot(r *ints.Reader) api.Exemplar {
 
 func getBlock(r *ints.Reader) api.Block {
 	b := api.Block{}
-	getInts(r, &b.Number, &b.Born, &b.Tier)
+	b.Number = r.Number()
+	b.Born = r.Number()
+	b.Tier = r.Number()
 	return b
 }

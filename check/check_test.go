@@ -43,6 +43,49 @@ func TestSumIsByBitsP201(t *testing.T) {
 	}
 }
 
+// alike tells whether the sum by bits and the one by the table are the same, and right.
+func alike(b []byte) bool {
+	return check.Sum(b) == check.SumByTable(b) && check.Sum(b) == crc32.ChecksumIEEE(b)
+}
+
+func TestBitsAndTableAreAlikeP201(t *testing.T) {
+	if !alike(nil) || !alike([]byte{}) {
+		t.Error("nothing")
+	}
+	for i := range 256 {
+		if !alike([]byte{byte(i)}) {
+			t.Errorf("the byte %d", i)
+		}
+	}
+	all := make([]byte, 1000)
+	rand.New(rand.NewSource(3)).Read(all)
+	for end := range len(all) + 1 {
+		if !alike(all[:end]) || !alike(all[end:]) {
+			t.Fatalf("cut at %d", end)
+		}
+	}
+	for _, b := range []byte{0, 1, 0x80, 0xff} {
+		if !alike(bytes.Repeat([]byte{b}, 1<<16)) {
+			t.Errorf("many of %d", b)
+		}
+	}
+}
+
+func TestTheTableIsMadeOnceP202(t *testing.T) {
+	b := []byte("123456789")
+	var all sync.WaitGroup
+	sums := make([]uint32, 8)
+	for i := range sums {
+		all.Go(func() { sums[i] = check.SumByTable(b) })
+	}
+	all.Wait()
+	for i, sum := range sums {
+		if sum != 0xcbf43926 || string(b) != "123456789" {
+			t.Errorf("%d: %x", i, sum)
+		}
+	}
+}
+
 func TestMoreP201(t *testing.T) {
 	b := []byte("what is summed in pieces")
 	for cut := range len(b) + 1 {

@@ -12,7 +12,7 @@ func Example() {
 	d, err := desk.Open(api.Config{
 		Idle: 2, Age: 10,
 		Most: 1000, Memo: 100,
-		Cap: 1 << 30,
+		Cap:  1 << 30,
 		Keep: 1000, Budget: 1 << 20,
 		Horizon: [3]int{3600, 86400, 86400 * 30},
 	}, 1<<24)

@@ -49,19 +49,48 @@ func TestGetP2301(t *testing.T) {
 		1: {work(1, 5, 1), work(1, 4, 2), work(1, 6, 4), work(1, 1, 7)},
 		2: {work(2, 5, 3)},
 		3: nil,
-		4: nil,
 	} {
 		got, err := query.Get(full(), api.Trace{Lo: trace})
 		same(t, fmt.Sprint(trace), got, want)
-		if (err == api.OK) != (want != nil) || want == nil && err != api.ErrNone {
+		if err != api.OK {
 			t.Errorf("%d: %d", trace, err)
 		}
 	}
-	if l, err := query.Get(api.State{}, api.Trace{}); err != api.ErrNone || len(l) != 0 {
-		t.Errorf("of a zero state: %v %d", l, err)
+}
+
+func TestGetOfNoEpisodeP2301(t *testing.T) {
+	wait := full()
+	wait.Blocks = nil
+	for _, c := range []struct {
+		what  string
+		state api.State
+		trace api.Trace
+	}{
+		{"a zero state", api.State{}, api.Trace{}},
+		{"blocks that have none", api.State{Blocks: []api.Block{{}, {}}}, api.Trace{}},
+		{"another Lo", full(), api.Trace{Lo: 4}},
+		{"another Hi", full(), api.Trace{Hi: 1, Lo: 1}},
+		{"episodes that are in no block", wait, api.Trace{Lo: 1}},
+	} {
+		if l, err := query.Get(c.state, c.trace); err != api.ErrNone || len(l) != 0 {
+			t.Errorf("%s: %v %d", c.what, l, err)
+		}
 	}
-	if _, err := query.Get(full(), api.Trace{Hi: 1, Lo: 1}); err != api.ErrNone {
-		t.Errorf("another Hi: %d", err)
+}
+
+func TestGetOfEpisodesWithoutSpansP2301(t *testing.T) {
+	zero := api.State{Blocks: []api.Block{{Episodes: []api.Episode{{}}}}}
+	if l, err := query.Get(zero, api.Trace{}); err != api.OK || len(l) != 0 {
+		t.Errorf("of the zero trace: %v %d", l, err)
+	}
+	if l, err := query.Get(zero, api.Trace{Lo: 1}); err != api.ErrNone || len(l) != 0 {
+		t.Errorf("of another one: %v %d", l, err)
+	}
+	two := api.State{Blocks: []api.Block{{Episodes: []api.Episode{of(1)}}, {Episodes: []api.Episode{of(1, work(1, 2, 3))}}}}
+	l, err := query.Get(two, api.Trace{Lo: 1})
+	same(t, "one without spans, one with a span", l, []api.Span{work(1, 2, 3)})
+	if err != api.OK {
+		t.Error(err)
 	}
 }
 
